@@ -1,0 +1,164 @@
+package check
+
+import (
+	"strings"
+
+	"lychgate/api"
+	"lychgate/order"
+	"lychgate/types"
+)
+
+// rules are what is asked of terms; what they mean by two of their words stands in the fields.
+type rules struct {
+	agree func(a, b api.Type) bool
+	match func(kind int8, a api.Type) (l, r api.Type, ok bool)
+}
+
+// A binding is a name that is around a term, with its type.
+type binding struct {
+	name string
+	of   api.Type
+}
+
+// tell gives the type of t. A rule that fails within it gives up by panic, with a *api.Fault.
+func (r rules) tell(t api.Term, around []binding) api.Type {
+	a := r.typeOf(t, around)
+	if e := types.Check(a); e != api.OK {
+		fail(t, e)
+	}
+	return a
+}
+
+// typeOf is tell, but for how deep and great the type is. The kinds that it names have no kids, or bind names.
+func (r rules) typeOf(t api.Term, around []binding) api.Type {
+	switch t.Kind {
+	case api.Var:
+		return named(t, around)
+	case api.Num:
+		return of(api.Int)
+	case api.Yes, api.No:
+		return of(api.Bool)
+	case api.Lam:
+		return of(api.Fun, t.Type, r.tell(t.Kids[0], with(around, binding{t.Name, t.Type})))
+	case api.Rec:
+		return r.rec(t, around)
+	case api.Let:
+		return r.let(t, around)
+	case api.Case:
+		return r.branches(t, around)
+	}
+	var kids []api.Type
+	for _, kid := range t.Kids {
+		kids = append(kids, r.tell(kid, around))
+	}
+	return r.over(t, kids)
+}
+
+func (r rules) rec(t api.Term, around []binding) api.Type {
+	function := of(api.Fun, t.Type, t.To)
+	body := r.tell(t.Kids[0], with(around, binding{t.Name, function}, binding{t.Arg, t.Type}))
+	r.wantAgree(t, body, t.To)
+	return function
+}
+
+func (r rules) let(t api.Term, around []binding) api.Type {
+	r.wantAgree(t, r.tell(t.Kids[0], around), t.Type)
+	return r.tell(t.Kids[1], with(around, binding{t.Name, t.Type}))
+}
+
+func (r rules) branches(t api.Term, around []binding) api.Type {
+	left, right := r.parts(t, api.Sum, r.tell(t.Kids[0], around))
+	ofLeft := r.tell(t.Kids[1], with(around, binding{t.Name, left}))
+	ofRight := r.tell(t.Kids[2], with(around, binding{t.Arg, right}))
+	return r.meet(t, ofLeft, ofRight)
+}
+
+// over gives the type of a t that binds no name, over kids of these types.
+func (r rules) over(t api.Term, kids []api.Type) api.Type {
+	switch t.Kind {
+	case api.App:
+		argument, answer := r.parts(t, api.Fun, kids[0])
+		r.wantAgree(t, kids[1], argument)
+		return answer
+	case api.If:
+		r.wantAgree(t, kids[0], of(api.Bool))
+		return r.meet(t, kids[1], kids[2])
+	case api.Two:
+		return of(api.Pair, kids...)
+	case api.Fst:
+		first, _ := r.parts(t, api.Pair, kids[0])
+		return first
+	case api.Snd:
+		_, second := r.parts(t, api.Pair, kids[0])
+		return second
+	case api.Inl:
+		left, right := r.parts(t, api.Sum, t.Type)
+		r.wantAgree(t, kids[0], left)
+		return of(api.Sum, left, right)
+	case api.Inr:
+		left, right := r.parts(t, api.Sum, t.Type)
+		r.wantAgree(t, kids[0], right)
+		return of(api.Sum, left, right)
+	case api.Op:
+		r.wantAgree(t, kids[0], of(api.Int))
+		r.wantAgree(t, kids[1], of(api.Int))
+		return answerOf(t.Name)
+	}
+	r.wantAgree(t, kids[0], t.Type) // an Is: there is no other kind left
+	return t.Type
+}
+
+// wantAgree fails at t, unless a agrees with b.
+func (r rules) wantAgree(t api.Term, a, b api.Type) {
+	if !r.agree(a, b) {
+		fail(t, api.ErrAgree)
+	}
+}
+
+// parts are those with which a matches a kind. It fails at t, if there are none.
+func (r rules) parts(t api.Term, kind int8, a api.Type) (left, right api.Type) {
+	left, right, ok := r.match(kind, a)
+	if !ok {
+		fail(t, api.ErrMatch)
+	}
+	return left, right
+}
+
+// meet is what both branches of t know. It fails at t, unless they agree.
+func (r rules) meet(t api.Term, a, b api.Type) api.Type {
+	r.wantAgree(t, a, b)
+	both, _ := order.Meet(a, b)
+	return both
+}
+
+// named is the type of the last one of t's name.
+func named(t api.Term, around []binding) api.Type {
+	for n := len(around) - 1; n >= 0; n-- {
+		if around[n].name == t.Name {
+			return around[n].of
+		}
+	}
+	panic(&api.Fault{Code: api.ErrName, At: t.At, Word: strings.Clone(t.Name)})
+}
+
+// with is what is around, and more behind it. It never writes into the room behind around's end: what is around another kid may lie there.
+func with(around []binding, more ...binding) []binding {
+	return append(around[:len(around):len(around)], more...)
+}
+
+// answerOf is the type of what an operator makes of two numbers.
+func answerOf(operator string) api.Type {
+	switch operator {
+	case "<", "=":
+		return of(api.Bool)
+	}
+	return of(api.Int)
+}
+
+func of(kind int8, parts ...api.Type) api.Type {
+	return api.Type{Kind: kind, Kids: parts}
+}
+
+func fail(t api.Term, code api.Errno) {
+	panic(&api.Fault{Code: code, At: t.At})
+}
