@@ -1,17 +1,54 @@
-package check
+// Package rules has the rules of chapter 9, which layers 9 and 11 ask of terms; some of their words mean another thing to each. See shared/doc/09-check.md and shared/doc/11-static.md.
+package rules
 
 import (
+	"slices"
 	"strings"
 
 	"lychgate/api"
-	"lychgate/order"
+	"lychgate/terms"
 	"lychgate/types"
 )
 
-// rules are what is asked of terms; what they mean by two of their words stands in the fields.
-type rules struct {
-	agree func(a, b api.Type) bool
-	match func(kind int8, a api.Type) (l, r api.Type, ok bool)
+// Rules are what is asked of terms; what they mean by some of their words stands in the fields.
+type Rules struct {
+	Refuse func(t api.Term) *api.Fault // of what they do not speak of: at the least what Refuse does
+	Agree  func(a, b api.Type) bool
+	Match  func(kind int8, a api.Type) (l, r api.Type, ok bool)
+	Meet   func(a, b api.Type) api.Type // of two that agree
+}
+
+// Refuse tells what keeps t from being a term without casts; or nil.
+func Refuse(t api.Term) *api.Fault {
+	e := terms.Check(t)
+	if e == api.OK && hasCast(t) {
+		e = api.ErrTerm
+	}
+	if e == api.OK {
+		return nil
+	}
+	return &api.Fault{Code: e}
+}
+
+// hasCast goes down into a term that has been checked.
+func hasCast(t api.Term) bool {
+	return t.Kind == api.Cast || slices.ContainsFunc(t.Kids, hasCast)
+}
+
+// Type gives the type of t, nothing being around it.
+func (r Rules) Type(t api.Term) (a api.Type, e error) {
+	if fault := r.Refuse(t); fault != nil {
+		return api.Type{}, fault
+	}
+	defer func() {
+		cause := recover()
+		if fault, ok := cause.(*api.Fault); ok {
+			a, e = api.Type{}, fault
+		} else if cause != nil {
+			panic(cause)
+		}
+	}()
+	return copied(r.tell(t, nil)), nil // it shares lists with t, and with itself
 }
 
 // A binding is a name that is around a term, with its type.
@@ -21,7 +58,7 @@ type binding struct {
 }
 
 // tell gives the type of t. A rule that fails within it gives up by panic, with a *api.Fault.
-func (r rules) tell(t api.Term, around []binding) api.Type {
+func (r Rules) tell(t api.Term, around []binding) api.Type {
 	a := r.typeOf(t, around)
 	if e := types.Check(a); e != api.OK {
 		fail(t, e)
@@ -30,7 +67,7 @@ func (r rules) tell(t api.Term, around []binding) api.Type {
 }
 
 // typeOf is tell, but for how deep and great the type is. The kinds that it names have no kids, or bind names.
-func (r rules) typeOf(t api.Term, around []binding) api.Type {
+func (r Rules) typeOf(t api.Term, around []binding) api.Type {
 	switch t.Kind {
 	case api.Var:
 		return named(t, around)
@@ -54,19 +91,19 @@ func (r rules) typeOf(t api.Term, around []binding) api.Type {
 	return r.over(t, kids)
 }
 
-func (r rules) rec(t api.Term, around []binding) api.Type {
+func (r Rules) rec(t api.Term, around []binding) api.Type {
 	function := of(api.Fun, t.Type, t.To)
 	body := r.tell(t.Kids[0], with(around, binding{t.Name, function}, binding{t.Arg, t.Type}))
 	r.wantAgree(t, body, t.To)
 	return function
 }
 
-func (r rules) let(t api.Term, around []binding) api.Type {
+func (r Rules) let(t api.Term, around []binding) api.Type {
 	r.wantAgree(t, r.tell(t.Kids[0], around), t.Type)
 	return r.tell(t.Kids[1], with(around, binding{t.Name, t.Type}))
 }
 
-func (r rules) branches(t api.Term, around []binding) api.Type {
+func (r Rules) branches(t api.Term, around []binding) api.Type {
 	left, right := r.parts(t, api.Sum, r.tell(t.Kids[0], around))
 	ofLeft := r.tell(t.Kids[1], with(around, binding{t.Name, left}))
 	ofRight := r.tell(t.Kids[2], with(around, binding{t.Arg, right}))
@@ -74,7 +111,7 @@ func (r rules) branches(t api.Term, around []binding) api.Type {
 }
 
 // over gives the type of a t that binds no name, over kids of these types.
-func (r rules) over(t api.Term, kids []api.Type) api.Type {
+func (r Rules) over(t api.Term, kids []api.Type) api.Type {
 	switch t.Kind {
 	case api.App:
 		argument, answer := r.parts(t, api.Fun, kids[0])
@@ -109,15 +146,15 @@ func (r rules) over(t api.Term, kids []api.Type) api.Type {
 }
 
 // wantAgree fails at t, unless a agrees with b.
-func (r rules) wantAgree(t api.Term, a, b api.Type) {
-	if !r.agree(a, b) {
+func (r Rules) wantAgree(t api.Term, a, b api.Type) {
+	if !r.Agree(a, b) {
 		fail(t, api.ErrAgree)
 	}
 }
 
 // parts are those with which a matches a kind. It fails at t, if there are none.
-func (r rules) parts(t api.Term, kind int8, a api.Type) (left, right api.Type) {
-	left, right, ok := r.match(kind, a)
+func (r Rules) parts(t api.Term, kind int8, a api.Type) (left, right api.Type) {
+	left, right, ok := r.Match(kind, a)
 	if !ok {
 		fail(t, api.ErrMatch)
 	}
@@ -125,10 +162,9 @@ func (r rules) parts(t api.Term, kind int8, a api.Type) (left, right api.Type) {
 }
 
 // meet is what both branches of t know. It fails at t, unless they agree.
-func (r rules) meet(t api.Term, a, b api.Type) api.Type {
+func (r Rules) meet(t api.Term, a, b api.Type) api.Type {
 	r.wantAgree(t, a, b)
-	both, _ := order.Meet(a, b)
-	return both
+	return r.Meet(a, b)
 }
 
 // named is the type of the last one of t's name.
@@ -161,4 +197,12 @@ func of(kind int8, parts ...api.Type) api.Type {
 
 func fail(t api.Term, code api.Errno) {
 	panic(&api.Fault{Code: code, At: t.At})
+}
+
+// copied goes down into a type that has been checked.
+func copied(a api.Type) api.Type {
+	if len(a.Kids) == 0 {
+		return of(a.Kind)
+	}
+	return of(a.Kind, copied(a.Kids[0]), copied(a.Kids[1]))
 }

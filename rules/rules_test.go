@@ -1,0 +1,81 @@
+package rules_test
+
+import (
+	"slices"
+	"strings"
+	"testing"
+
+	"lychgate/api"
+	"lychgate/parse"
+	"lychgate/rules"
+	"lychgate/types"
+)
+
+// asking are rules by which all is well, and where what was asked is noted.
+func asking(asked *[]string) rules.Rules {
+	note := func(word string, l ...api.Type) {
+		for _, a := range l {
+			text, _ := types.Text(a)
+			word += " " + text
+		}
+		*asked = append(*asked, word)
+	}
+	return rules.Rules{
+		Refuse: rules.Refuse,
+		Agree:  func(a, b api.Type) bool { note("agree", a, b); return true },
+		Match: func(kind int8, a api.Type) (l, r api.Type, ok bool) {
+			note("match", a)
+			return api.Type{Kind: api.Int}, api.Type{Kind: api.Bool}, true
+		},
+		Meet: func(a, b api.Type) api.Type { note("meet", a, b); return b },
+	}
+}
+
+// What the rules' words mean is up to the fields: they are asked of what is there and of what is wanted, in the rules' order.
+func TestTheFieldsAreAsked(t *testing.T) {
+	for text, want := range map[string]string{
+		`(1)(true)`:                           "match int; agree bool int; is bool",
+		`fst 1`:                               "match int; is int",
+		`snd 1`:                               "match int; is bool",
+		`inl{?}true`:                          "match ?; agree bool int; is int + bool",
+		`inr{?}1`:                             "match ?; agree int bool; is int + bool",
+		`case true of x.[x, 1] | y.[y, 2]`:    "match bool; agree int * int bool * int; meet int * int bool * int; is bool * int",
+		`if 1 then 2 else true`:               "agree int bool; agree int bool; meet int bool; is bool",
+		`true+1`:                              "agree bool int; agree int int; is int",
+		`true:?`:                              "agree bool ?; is ?",
+		`let x:?=1 in x`:                      "agree int ?; is ?",
+		`rec f(x:int):?.x`:                    "agree int ?; is int -> ?",
+		`\x:int.x`:                            "is int -> int",
+		`if true:? then fst 1 else (snd 2:?)`: "agree bool ?; match int; match int; agree bool ?; agree ? bool; agree int ?; meet int ?; is ?",
+	} {
+		x, err := parse.Term(text)
+		var asked []string
+		a, fail := asking(&asked).Type(x)
+		is, _ := types.Text(a)
+		if asked = append(asked, "is "+is); err != nil || fail != nil || strings.Join(asked, "; ") != want {
+			t.Errorf("%s: %v, %v, %v; want %s", text, err, fail, asked, want)
+		}
+	}
+}
+
+// What is refused is refused ahead of all else.
+func TestRefusedAhead(t *testing.T) {
+	var asked []string
+	r := asking(&asked)
+	r.Refuse = func(api.Term) *api.Fault { return &api.Fault{Code: api.ErrFull, At: 3} }
+	x, _ := parse.Term(`y(fst 1)`)
+	a, err := r.Type(x)
+	if err == nil || err.Error() != "3: error 4: " || a.Kind != 0 || len(a.Kids) != 0 || len(asked) != 0 {
+		t.Error(a, err, asked)
+	}
+}
+
+// What the fields let pass may still fail.
+func TestNames(t *testing.T) {
+	var asked []string
+	x, _ := parse.Term(`[1 + true, y]`)
+	a, err := asking(&asked).Type(x)
+	if err == nil || err.Error() != "11: error 41: y" || a.Kind != 0 || len(a.Kids) != 0 || !slices.Equal(asked, []string{"agree int int", "agree bool int"}) {
+		t.Error(a, err, asked)
+	}
+}
