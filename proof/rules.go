@@ -4,71 +4,66 @@ import (
 	"lychgate/agree"
 	"lychgate/api"
 	"lychgate/order"
+	"lychgate/rules"
 )
 
-// A binding is a name that is around a term, with its type.
-type binding struct {
-	name string
-	of   api.Type
-}
-
 // An asker tells the type of a kid of a term. Behind what is around the term, more may be around the kid.
-type asker func(kid int, more ...binding) api.Type
+type asker func(kid int, more ...rules.Binding) api.Type
 
 // A rule gives the type of a term, and whether nothing fails. It asks for the kids from the left, each once.
-type rule func(t api.Term, around []binding, ask asker) (api.Type, bool)
+type rule func(t api.Term, around rules.Around, ask asker) (api.Type, bool)
 
-// rules are those of chapter 9, each at its kind. Of a Cast there is none.
-type rules map[int8]rule
+// A table has the rules of chapter 9, each at its kind. Of a Cast there is none.
+type table map[int8]rule
 
-func newRules() rules {
-	return rules{
-		api.Var: func(t api.Term, around []binding, _ asker) (api.Type, bool) {
-			return named(t.Name, around)
+func newTable() table {
+	return table{
+		api.Var: func(t api.Term, around rules.Around, _ asker) (api.Type, bool) {
+			return around.Of(t.Name)
 		},
 		api.Num: plainly(api.Int),
 		api.Yes: plainly(api.Bool),
 		api.No:  plainly(api.Bool),
-		api.Lam: func(t api.Term, _ []binding, ask asker) (api.Type, bool) {
-			return of(api.Fun, t.Type, ask(0, binding{t.Name, t.Type})), true
+		api.Lam: func(t api.Term, _ rules.Around, ask asker) (api.Type, bool) {
+			return of(api.Fun, t.Type, ask(0, rules.Bind(t.Name, t.Type))), true
 		},
-		api.Rec: func(t api.Term, _ []binding, ask asker) (api.Type, bool) {
+		api.Rec: func(t api.Term, _ rules.Around, ask asker) (api.Type, bool) {
 			function := of(api.Fun, t.Type, t.To)
-			body := ask(0, binding{t.Name, function}, binding{t.Arg, t.Type})
+			body := ask(0, rules.Bind(t.Name, function), rules.Bind(t.Arg, t.Type))
 			return function, agree.Agree(body, t.To)
 		},
-		api.App: func(_ api.Term, _ []binding, ask asker) (api.Type, bool) {
+		api.App: func(_ api.Term, _ rules.Around, ask asker) (api.Type, bool) {
 			function, argument := ask(0), ask(1)
 			wanted, answer, ok := agree.As(api.Fun, function)
 			return answer, ok && agree.Agree(argument, wanted)
 		},
-		api.Let: func(t api.Term, _ []binding, ask asker) (api.Type, bool) {
-			first, second := ask(0), ask(1, binding{t.Name, t.Type})
+		api.Let: func(t api.Term, _ rules.Around, ask asker) (api.Type, bool) {
+			first, second := ask(0), ask(1, rules.Bind(t.Name, t.Type))
 			return second, agree.Agree(first, t.Type)
 		},
-		api.If: func(_ api.Term, _ []binding, ask asker) (api.Type, bool) {
+		api.If: func(_ api.Term, _ rules.Around, ask asker) (api.Type, bool) {
 			condition, yes, no := ask(0), ask(1), ask(2)
 			both, ok := order.Meet(yes, no)
 			return both, ok && agree.Agree(condition, of(api.Bool))
 		},
-		api.Two: func(_ api.Term, _ []binding, ask asker) (api.Type, bool) {
+		api.Two: func(_ api.Term, _ rules.Around, ask asker) (api.Type, bool) {
 			return of(api.Pair, ask(0), ask(1)), true
 		},
 		api.Fst: half(0),
 		api.Snd: half(1),
 		api.Inl: into(0),
 		api.Inr: into(1),
-		api.Case: func(t api.Term, _ []binding, ask asker) (api.Type, bool) {
+		api.Case: func(t api.Term, _ rules.Around, ask asker) (api.Type, bool) {
 			left, right, ok := agree.As(api.Sum, ask(0))
-			ofLeft, ofRight := ask(1, binding{t.Name, left}), ask(2, binding{t.Arg, right})
+			ofLeft, ofRight := ask(1, rules.Bind(t.Name, left)), ask(2, rules.Bind(t.Arg, right))
 			both, agreeing := order.Meet(ofLeft, ofRight)
 			return both, ok && agreeing
 		},
-		api.Op: func(t api.Term, _ []binding, ask asker) (api.Type, bool) {
+		api.Op: func(t api.Term, _ rules.Around, ask asker) (api.Type, bool) {
 			first, second := ask(0), ask(1)
-			return answerOf(t.Name), agree.Agree(first, of(api.Int)) && agree.Agree(second, of(api.Int))
+			return rules.AnswerOf(t.Name), agree.Agree(first, of(api.Int)) && agree.Agree(second, of(api.Int))
 		},
-		api.Is: func(t api.Term, _ []binding, ask asker) (api.Type, bool) {
+		api.Is: func(t api.Term, _ rules.Around, ask asker) (api.Type, bool) {
 			return t.Type, agree.Agree(ask(0), t.Type)
 		},
 	}
@@ -76,12 +71,12 @@ func newRules() rules {
 
 // plainly is the rule of what always has a type of that kind.
 func plainly(kind int8) rule {
-	return func(api.Term, []binding, asker) (api.Type, bool) { return of(kind), true }
+	return func(api.Term, rules.Around, asker) (api.Type, bool) { return of(kind), true }
 }
 
 // half is the rule of what takes that one of a pair.
 func half(side int) rule {
-	return func(_ api.Term, _ []binding, ask asker) (api.Type, bool) {
+	return func(_ api.Term, _ rules.Around, ask asker) (api.Type, bool) {
 		left, right, ok := agree.As(api.Pair, ask(0))
 		return [...]api.Type{left, right}[side], ok
 	}
@@ -89,35 +84,11 @@ func half(side int) rule {
 
 // into is the rule of what puts its kid on that side of a sum.
 func into(side int) rule {
-	return func(t api.Term, _ []binding, ask asker) (api.Type, bool) {
+	return func(t api.Term, _ rules.Around, ask asker) (api.Type, bool) {
 		kid := ask(0)
 		left, right, ok := agree.As(api.Sum, t.Type)
 		return of(api.Sum, left, right), ok && agree.Agree(kid, [...]api.Type{left, right}[side])
 	}
-}
-
-// answerOf is the type of what an operator makes of two numbers.
-func answerOf(operator string) api.Type {
-	switch operator {
-	case "<", "=":
-		return of(api.Bool)
-	}
-	return of(api.Int)
-}
-
-// named is the type of the last one of that name, if there is one.
-func named(name string, around []binding) (api.Type, bool) {
-	for n := len(around) - 1; n >= 0; n-- {
-		if around[n].name == name {
-			return around[n].of, true
-		}
-	}
-	return api.Type{}, false
-}
-
-// with is what is around, and more behind it. It never writes into the room behind around's end: what is around another kid may lie there.
-func with(around []binding, more ...binding) []binding {
-	return append(around[:len(around):len(around)], more...)
 }
 
 func of(kind int8, parts ...api.Type) api.Type {

@@ -1,4 +1,4 @@
-// Package rules has the rules of chapter 9, which layers 9 and 11 ask of terms; some of their words mean another thing to each. See shared/doc/09-check.md and shared/doc/11-static.md.
+// Package rules has the rules of chapter 9, which layers 9 and 11 ask of terms; some of their words mean another thing to each. What is around a term is here for layers 10 and 12, too. See shared/doc/09-check.md and shared/doc/11-static.md.
 package rules
 
 import (
@@ -51,14 +51,8 @@ func (r Rules) Type(t api.Term) (a api.Type, e error) {
 	return copied(r.tell(t, nil)), nil // it shares lists with t, and with itself
 }
 
-// A binding is a name that is around a term, with its type.
-type binding struct {
-	name string
-	of   api.Type
-}
-
 // tell gives the type of t. A rule that fails within it gives up by panic, with a *api.Fault.
-func (r Rules) tell(t api.Term, around []binding) api.Type {
+func (r Rules) tell(t api.Term, around Around) api.Type {
 	a := r.typeOf(t, around)
 	if e := types.Check(a); e != api.OK {
 		fail(t, e)
@@ -67,7 +61,7 @@ func (r Rules) tell(t api.Term, around []binding) api.Type {
 }
 
 // typeOf is tell, but for how deep and great the type is. The kinds that it names have no kids, or bind names.
-func (r Rules) typeOf(t api.Term, around []binding) api.Type {
+func (r Rules) typeOf(t api.Term, around Around) api.Type {
 	switch t.Kind {
 	case api.Var:
 		return named(t, around)
@@ -76,7 +70,7 @@ func (r Rules) typeOf(t api.Term, around []binding) api.Type {
 	case api.Yes, api.No:
 		return of(api.Bool)
 	case api.Lam:
-		return of(api.Fun, t.Type, r.tell(t.Kids[0], with(around, binding{t.Name, t.Type})))
+		return of(api.Fun, t.Type, r.tell(t.Kids[0], around.With(Bind(t.Name, t.Type))))
 	case api.Rec:
 		return r.rec(t, around)
 	case api.Let:
@@ -91,22 +85,22 @@ func (r Rules) typeOf(t api.Term, around []binding) api.Type {
 	return r.over(t, kids)
 }
 
-func (r Rules) rec(t api.Term, around []binding) api.Type {
+func (r Rules) rec(t api.Term, around Around) api.Type {
 	function := of(api.Fun, t.Type, t.To)
-	body := r.tell(t.Kids[0], with(around, binding{t.Name, function}, binding{t.Arg, t.Type}))
+	body := r.tell(t.Kids[0], around.With(Bind(t.Name, function), Bind(t.Arg, t.Type)))
 	r.wantAgree(t, body, t.To)
 	return function
 }
 
-func (r Rules) let(t api.Term, around []binding) api.Type {
+func (r Rules) let(t api.Term, around Around) api.Type {
 	r.wantAgree(t, r.tell(t.Kids[0], around), t.Type)
-	return r.tell(t.Kids[1], with(around, binding{t.Name, t.Type}))
+	return r.tell(t.Kids[1], around.With(Bind(t.Name, t.Type)))
 }
 
-func (r Rules) branches(t api.Term, around []binding) api.Type {
+func (r Rules) branches(t api.Term, around Around) api.Type {
 	left, right := r.parts(t, api.Sum, r.tell(t.Kids[0], around))
-	ofLeft := r.tell(t.Kids[1], with(around, binding{t.Name, left}))
-	ofRight := r.tell(t.Kids[2], with(around, binding{t.Arg, right}))
+	ofLeft := r.tell(t.Kids[1], around.With(Bind(t.Name, left)))
+	ofRight := r.tell(t.Kids[2], around.With(Bind(t.Arg, right)))
 	return r.meet(t, ofLeft, ofRight)
 }
 
@@ -139,7 +133,7 @@ func (r Rules) over(t api.Term, kids []api.Type) api.Type {
 	case api.Op:
 		r.wantAgree(t, kids[0], of(api.Int))
 		r.wantAgree(t, kids[1], of(api.Int))
-		return answerOf(t.Name)
+		return AnswerOf(t.Name)
 	}
 	r.wantAgree(t, kids[0], t.Type) // an Is: there is no other kind left
 	return t.Type
@@ -167,23 +161,17 @@ func (r Rules) meet(t api.Term, a, b api.Type) api.Type {
 	return r.Meet(a, b)
 }
 
-// named is the type of the last one of t's name.
-func named(t api.Term, around []binding) api.Type {
-	for n := len(around) - 1; n >= 0; n-- {
-		if around[n].name == t.Name {
-			return around[n].of
-		}
+// named is the type of t's name. It fails at t, if nothing of that name is around.
+func named(t api.Term, around Around) api.Type {
+	a, ok := around.Of(t.Name)
+	if !ok {
+		panic(&api.Fault{Code: api.ErrName, At: t.At, Word: strings.Clone(t.Name)})
 	}
-	panic(&api.Fault{Code: api.ErrName, At: t.At, Word: strings.Clone(t.Name)})
+	return a
 }
 
-// with is what is around, and more behind it. It never writes into the room behind around's end: what is around another kid may lie there.
-func with(around []binding, more ...binding) []binding {
-	return append(around[:len(around):len(around)], more...)
-}
-
-// answerOf is the type of what an operator makes of two numbers.
-func answerOf(operator string) api.Type {
+// AnswerOf is the type of what an operator makes of two numbers.
+func AnswerOf(operator string) api.Type {
 	switch operator {
 	case "<", "=":
 		return of(api.Bool)

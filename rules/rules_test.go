@@ -79,3 +79,37 @@ func TestNames(t *testing.T) {
 		t.Error(a, err, asked)
 	}
 }
+
+// What is around a term: the last one of a name counts, and what is around one kid is not written over by what is around another one.
+func TestAround(t *testing.T) {
+	integer, boolean := api.Type{Kind: api.Int}, api.Type{Kind: api.Bool}
+	wants := func(around rules.Around, name string, want api.Type, there bool) {
+		t.Helper()
+		if a, ok := around.Of(name); ok != there || !types.Same(a, want) {
+			t.Errorf("%s: %v, %v", name, a, ok)
+		}
+	}
+	var none rules.Around
+	wants(none, "x", api.Type{}, false)
+	outer := none.With(rules.Bind("x", integer), rules.Bind("y", integer), rules.Bind("z", integer))
+	left, right := outer.With(rules.Bind("x", boolean)), outer.With(rules.Bind("y", boolean))
+	twice := left.With(rules.Bind("x", integer), rules.Bind("x", boolean), rules.Bind("w", boolean))
+	for name, want := range map[string][]api.Type{"x": {integer, boolean, integer, boolean}, "y": {integer, integer, boolean, integer}, "z": {integer, integer, integer, integer}} {
+		for n, around := range []rules.Around{outer, left, right, twice} {
+			wants(around, name, want[n], true)
+		}
+	}
+	wants(twice, "w", boolean, true)
+	wants(left, "w", api.Type{}, false)
+	wants(left, "", api.Type{}, false)
+	wants(outer.With(), "x", integer, true)
+}
+
+// What an operator makes of two numbers.
+func TestAnswers(t *testing.T) {
+	for operator, kind := range map[string]int8{"+": api.Int, "-": api.Int, "*": api.Int, "/": api.Int, "<": api.Bool, "=": api.Bool} {
+		if a := rules.AnswerOf(operator); !types.Same(a, api.Type{Kind: kind}) {
+			t.Errorf("%s: %v", operator, a)
+		}
+	}
+}

@@ -1,0 +1,258 @@
+package insert_test
+
+import (
+	"maps"
+	"slices"
+	"testing"
+
+	"lychgate/agree"
+	"lychgate/api"
+	"lychgate/check"
+	"lychgate/insert"
+	"lychgate/parse"
+	"lychgate/show"
+	"lychgate/static"
+	"lychgate/terms"
+	"lychgate/types"
+)
+
+// strictly is the type of a cast term by rules that know nothing of agreeing but at a Cast (chapter 13), written down for these tests; false, if one of them fails.
+func strictly(u api.Term, around map[string]api.Type) (api.Type, bool) {
+	well := true
+	kid := func(n int, names ...string) func(...api.Type) api.Type {
+		return func(ofNames ...api.Type) api.Type {
+			within := maps.Clone(around)
+			for m, x := range names {
+				within[x] = ofNames[m]
+			}
+			a, ok := strictly(u.Kids[n], within)
+			well = well && ok
+			return a
+		}
+	}
+	is := func(a, b api.Type) { well = well && types.Same(a, b) }
+	parts := func(kind int8, a api.Type) (l, r api.Type) {
+		if a.Kind != kind {
+			well = false
+			return unknown(), unknown()
+		}
+		return a.Kids[0], a.Kids[1]
+	}
+	told := func(a api.Type) (api.Type, bool) { return a, well }
+	switch u.Kind {
+	case api.Var:
+		a, ok := around[u.Name]
+		return a, ok
+	case api.Num:
+		return integer(), true
+	case api.Yes, api.No:
+		return boolean(), true
+	case api.Lam:
+		return told(of(api.Fun, u.Type, kid(0, u.Name)(u.Type)))
+	case api.Rec:
+		function := of(api.Fun, u.Type, u.To)
+		is(kid(0, u.Name, u.Arg)(function, u.Type), u.To)
+		return told(function)
+	case api.App:
+		l, r := parts(api.Fun, kid(0)())
+		is(kid(1)(), l)
+		return told(r)
+	case api.Let:
+		is(kid(0)(), u.Type)
+		return told(kid(1, u.Name)(u.Type))
+	case api.If:
+		is(kid(0)(), boolean())
+		a := kid(1)()
+		is(kid(2)(), a)
+		return told(a)
+	case api.Two:
+		return told(of(api.Pair, kid(0)(), kid(1)()))
+	case api.Fst:
+		l, _ := parts(api.Pair, kid(0)())
+		return told(l)
+	case api.Snd:
+		_, r := parts(api.Pair, kid(0)())
+		return told(r)
+	case api.Inl:
+		l, _ := parts(api.Sum, u.Type)
+		is(kid(0)(), l)
+		return told(u.Type)
+	case api.Inr:
+		_, r := parts(api.Sum, u.Type)
+		is(kid(0)(), r)
+		return told(u.Type)
+	case api.Case:
+		l, r := parts(api.Sum, kid(0)())
+		a := kid(1, u.Name)(l)
+		is(kid(2, u.Arg)(r), a)
+		return told(a)
+	case api.Op:
+		is(kid(0)(), integer())
+		is(kid(1)(), integer())
+		if u.Name == "<" || u.Name == "=" {
+			return told(boolean())
+		}
+		return told(integer())
+	case api.Cast:
+		is(kid(0)(), u.Type)
+		well = well && agree.Agree(u.Type, u.To)
+		return told(u.To)
+	}
+	return unknown(), false // an Is
+}
+
+// inserted makes so many terms, opens their annotations, and hands on what each becomes, and its type.
+func inserted(t *testing.T, seed int64, many int, use func(g *grower, x, u api.Term, a api.Type)) {
+	t.Helper()
+	g, casts := newGrower(seed), 0
+	for n := range many {
+		x := numbered(g.random, annotated(g.term(1+n%6), g.opened))
+		u, a, err := insert.Term(x)
+		if err != nil {
+			t.Fatal(shortTerm(x), err)
+		}
+		casts += castsOf(u)
+		use(g, x, u, a)
+		if t.Failed() {
+			t.FailNow() // one is enough: the next ones would tell the same
+		}
+	}
+	if casts < many {
+		t.Errorf("only %d Casts in %d terms", casts, many)
+	}
+}
+
+// P12.2: what is told is taken by strict rules, at the type that is told, which is check's. There is no Is in it; each Cast goes between two types that agree and are not the same.
+func TestWhatIsToldIsTakenStrictly(t *testing.T) {
+	inserted(t, 11, 6000, func(_ *grower, x, u api.Term, a api.Type) {
+		b, ok := strictly(u, map[string]api.Type{})
+		c, err := check.Type(x)
+		if !ok || err != nil || !types.Same(a, b) || !types.Same(a, c) {
+			t.Errorf("%s of %s: %s of %s", shortTerm(x), short(c), written(u), short(a))
+		}
+		for _, y := range allOf(u) {
+			if y.Kind == api.Is || y.Kind == api.Cast && (!agree.Agree(y.Type, y.To) || types.Same(y.Type, y.To)) {
+				t.Errorf("%s: %s in %s", shortTerm(x), written(y), written(u))
+			}
+		}
+		if e := terms.Check(u); e != api.OK {
+			t.Errorf("%s: %v", shortTerm(x), e)
+		}
+	})
+}
+
+// withoutIs is x without its Is.
+func withoutIs(x api.Term) api.Term {
+	for x.Kind == api.Is {
+		x = x.Kids[0]
+	}
+	return over(x, withoutIs)
+}
+
+// P12.3: a static term has no cast put in, and changes but for its Is.
+func TestStaticTerms(t *testing.T) {
+	unchanged := func(x api.Term) {
+		t.Helper()
+		a, err := static.Type(x)
+		if err != nil {
+			t.Fatal("the test's own term", shortTerm(x), err)
+		}
+		becomes(t, x, withoutIs(x), a)
+	}
+	g, ascribed := newGrower(12), 0
+	for n := range 4000 {
+		x := numbered(g.random, g.term(1+n%6))
+		unchanged(x)
+		for _, y := range allOf(x) {
+			if y.Kind == api.Is {
+				ascribed++
+			}
+		}
+	}
+	if ascribed < 1000 {
+		t.Errorf("only %d Is", ascribed)
+	}
+	for _, text := range []string{
+		`\x:int->bool.x`, `(\x:int.x+1)(2)`, `rec f(x:int*bool):int+bool.if snd x then inl{int+bool}fst x else f(x)`, `let f:(int->int)->bool=\g:int->int.g(1)<2 in f(\x:int.x)`, `case inr{int+(bool*int)}[true, 1] of x.x | y.snd y`,
+		`\f:int->int->int.\x:int.f(x)(x):int`, `if true then \x:int*int.fst x else (\x:int*int.snd x : int)`, `inl{int+(int->bool)}1 : int+(int->bool)`, `(1:int:int)+(2:int)`, `fst ([1:int, true]:int*bool)`,
+	} {
+		unchanged(term(text))
+	}
+	bad := allAt(term(`[1:int, (\x:int.x)(2)]:int*int`), -1) // nothing is to be cast, so that it may stand anywhere
+	unchanged(bad)
+}
+
+// erased is u with the kid in the place of each Cast.
+func erased(u api.Term) api.Term {
+	for u.Kind == api.Cast {
+		u = u.Kids[0]
+	}
+	return over(u, erased)
+}
+
+// sumsAlike is x with one type for all Inl and Inr.
+func sumsAlike(x api.Term) api.Term {
+	if x.Kind == api.Inl || x.Kind == api.Inr {
+		x.Type = unknown()
+	}
+	return over(x, sumsAlike)
+}
+
+// P12.4: of what came out of a text all labels are above 0, and unlike one another, and each Cast stands over what its label tells. Without Casts it is what it was without Is, but for the Types of Inl and Inr.
+func TestLabelsOfTexts(t *testing.T) {
+	labels := 0
+	fromText := func(text string) {
+		t.Helper()
+		x, err := parse.Term(text)
+		if err != nil {
+			t.Fatal(text, err)
+		}
+		u, _, err := insert.Term(x)
+		if err != nil {
+			t.Fatal(text, err)
+		}
+		var seen []int
+		for _, y := range allOf(u) {
+			if y.Kind != api.Cast {
+				continue
+			}
+			if y.Label <= 0 || slices.Contains(seen, y.Label) || y.Label != y.At+1 {
+				t.Errorf("%s: %s", text, written(u))
+			}
+			if !slices.ContainsFunc(allOf(x), func(z api.Term) bool { return z.At == y.At }) {
+				t.Errorf("%s: nothing stands at %d", text, y.At)
+			}
+			seen = append(seen, y.Label)
+		}
+		labels += len(seen)
+		if v, w := erased(u), withoutIs(x); !terms.Same(sumsAlike(v), sumsAlike(w)) {
+			t.Errorf("%s: without Casts %s; without Is %s", text, written(v), written(w))
+		}
+	}
+	inserted(t, 13, 4000, func(_ *grower, x, _ api.Term, _ api.Type) {
+		if text, e := show.Text(x); e == api.OK {
+			fromText(text)
+		}
+	})
+	if labels < 4000 {
+		t.Errorf("only %d labels", labels)
+	}
+	for _, text := range []string{`1:?:int:?:bool:?`, `(1:?)(2)(3)(4:int)`, `\x:?.x(x)(x)(x)`, `inl{?}inr{?}inl{?}1`, `\x:?.fst snd fst x`, `(1:?)+(2:?)*(3:?)<(4:?)`} {
+		fromText(text)
+	}
+}
+
+// The types of Inl and Inr are sums, whatever they were: those that were are as they were.
+func TestSumsAreSums(t *testing.T) {
+	inserted(t, 14, 3000, func(_ *grower, x, u api.Term, _ api.Type) {
+		before, after := allOf(withoutIs(x)), allOf(erased(u))
+		for n, y := range after {
+			if y.Kind != api.Inl && y.Kind != api.Inr {
+				continue
+			}
+			if was := before[n].Type; was.Kind == api.Sum && !types.Same(y.Type, was) || was.Kind == api.Unknown && !types.Same(y.Type, typed("? + ?")) {
+				t.Errorf("%s: %s in %s", shortTerm(x), written(y), written(u))
+			}
+		}
+	})
+}
