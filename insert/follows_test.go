@@ -1,7 +1,6 @@
 package insert_test
 
 import (
-	"maps"
 	"slices"
 	"testing"
 
@@ -9,6 +8,7 @@ import (
 	"lychgate/api"
 	"lychgate/check"
 	"lychgate/insert"
+	"lychgate/kernel"
 	"lychgate/parse"
 	"lychgate/show"
 	"lychgate/static"
@@ -16,97 +16,12 @@ import (
 	"lychgate/types"
 )
 
-// strictly is the type of a cast term by rules that know nothing of agreeing but at a Cast (chapter 13), written down for these tests; false, if one of them fails.
-func strictly(u api.Term, around map[string]api.Type) (api.Type, bool) {
-	well := true
-	kid := func(n int, names ...string) func(...api.Type) api.Type {
-		return func(ofNames ...api.Type) api.Type {
-			within := maps.Clone(around)
-			for m, x := range names {
-				within[x] = ofNames[m]
-			}
-			a, ok := strictly(u.Kids[n], within)
-			well = well && ok
-			return a
-		}
-	}
-	is := func(a, b api.Type) { well = well && types.Same(a, b) }
-	parts := func(kind int8, a api.Type) (l, r api.Type) {
-		if a.Kind != kind {
-			well = false
-			return unknown(), unknown()
-		}
-		return a.Kids[0], a.Kids[1]
-	}
-	told := func(a api.Type) (api.Type, bool) { return a, well }
-	switch u.Kind {
-	case api.Var:
-		a, ok := around[u.Name]
-		return a, ok
-	case api.Num:
-		return integer(), true
-	case api.Yes, api.No:
-		return boolean(), true
-	case api.Lam:
-		return told(of(api.Fun, u.Type, kid(0, u.Name)(u.Type)))
-	case api.Rec:
-		function := of(api.Fun, u.Type, u.To)
-		is(kid(0, u.Name, u.Arg)(function, u.Type), u.To)
-		return told(function)
-	case api.App:
-		l, r := parts(api.Fun, kid(0)())
-		is(kid(1)(), l)
-		return told(r)
-	case api.Let:
-		is(kid(0)(), u.Type)
-		return told(kid(1, u.Name)(u.Type))
-	case api.If:
-		is(kid(0)(), boolean())
-		a := kid(1)()
-		is(kid(2)(), a)
-		return told(a)
-	case api.Two:
-		return told(of(api.Pair, kid(0)(), kid(1)()))
-	case api.Fst:
-		l, _ := parts(api.Pair, kid(0)())
-		return told(l)
-	case api.Snd:
-		_, r := parts(api.Pair, kid(0)())
-		return told(r)
-	case api.Inl:
-		l, _ := parts(api.Sum, u.Type)
-		is(kid(0)(), l)
-		return told(u.Type)
-	case api.Inr:
-		_, r := parts(api.Sum, u.Type)
-		is(kid(0)(), r)
-		return told(u.Type)
-	case api.Case:
-		l, r := parts(api.Sum, kid(0)())
-		a := kid(1, u.Name)(l)
-		is(kid(2, u.Arg)(r), a)
-		return told(a)
-	case api.Op:
-		is(kid(0)(), integer())
-		is(kid(1)(), integer())
-		if u.Name == "<" || u.Name == "=" {
-			return told(boolean())
-		}
-		return told(integer())
-	case api.Cast:
-		is(kid(0)(), u.Type)
-		well = well && agree.Agree(u.Type, u.To)
-		return told(u.To)
-	}
-	return unknown(), false // an Is
-}
-
 // inserted makes so many terms, opens their annotations, and hands on what each becomes, and its type.
 func inserted(t *testing.T, seed int64, many int, use func(g *grower, x, u api.Term, a api.Type)) {
 	t.Helper()
 	g, casts := newGrower(seed), 0
 	for n := range many {
-		x := numbered(g.random, annotated(g.term(1+n%6), g.opened))
+		x := numbered(g.random, annotated(g.Term(1+n%6), g.Opened))
 		u, a, err := insert.Term(x)
 		if err != nil {
 			t.Fatal(shortTerm(x), err)
@@ -122,13 +37,13 @@ func inserted(t *testing.T, seed int64, many int, use func(g *grower, x, u api.T
 	}
 }
 
-// P12.2: what is told is taken by strict rules, at the type that is told, which is check's. There is no Is in it; each Cast goes between two types that agree and are not the same.
-func TestWhatIsToldIsTakenStrictly(t *testing.T) {
+// P12.2: what is told is taken by kernel, at the type that is told, which is check's. There is no Is in it; each Cast goes between two types that agree and are not the same.
+func TestWhatIsToldIsTaken(t *testing.T) {
 	inserted(t, 11, 6000, func(_ *grower, x, u api.Term, a api.Type) {
-		b, ok := strictly(u, map[string]api.Type{})
+		b, e := kernel.Type(u)
 		c, err := check.Type(x)
-		if !ok || err != nil || !types.Same(a, b) || !types.Same(a, c) {
-			t.Errorf("%s of %s: %s of %s", shortTerm(x), short(c), written(u), short(a))
+		if e != api.OK || err != nil || !types.Same(a, b) || !types.Same(a, c) {
+			t.Errorf("%s of %s: %s of %s; %v", shortTerm(x), short(c), written(u), short(a), e)
 		}
 		for _, y := range allOf(u) {
 			if y.Kind == api.Is || y.Kind == api.Cast && (!agree.Agree(y.Type, y.To) || types.Same(y.Type, y.To)) {
@@ -161,7 +76,7 @@ func TestStaticTerms(t *testing.T) {
 	}
 	g, ascribed := newGrower(12), 0
 	for n := range 4000 {
-		x := numbered(g.random, g.term(1+n%6))
+		x := numbered(g.random, g.Term(1+n%6))
 		unchanged(x)
 		for _, y := range allOf(x) {
 			if y.Kind == api.Is {

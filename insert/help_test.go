@@ -2,7 +2,6 @@ package insert_test
 
 import (
 	"errors"
-	"fmt"
 	"slices"
 	"strconv"
 	"strings"
@@ -10,13 +9,23 @@ import (
 
 	"lychgate/api"
 	"lychgate/insert"
-	"lychgate/parse"
-	"lychgate/scan"
-	"lychgate/show"
+	"lychgate/samples"
 	"lychgate/types"
 )
 
-func of(kind int8, kids ...api.Type) api.Type { return api.Type{Kind: kind, Kids: kids} }
+// What package samples makes.
+var (
+	of        = samples.Of
+	typed     = samples.Type
+	term      = samples.Term
+	chain     = samples.Chain
+	balanced  = samples.Balanced
+	allOf     = samples.All
+	over      = samples.Over
+	annotated = samples.Annotated
+	short     = samples.ShortType
+	shortTerm = samples.ShortTerm
+)
 
 func unknown() api.Type { return of(api.Unknown) }
 
@@ -32,126 +41,6 @@ func node(kind int8, at int, kids ...api.Term) api.Term {
 // name is a Var.
 func name(x string, at int) api.Term { return api.Term{Kind: api.Var, Name: x, At: at} }
 
-// typed is the type that a text tells.
-func typed(text string) api.Type {
-	words, err := scan.All(text)
-	if err != nil {
-		panic(err)
-	}
-	a, next, err := types.Read(words, 0)
-	if err != nil || words[next].Kind != api.WordEnd {
-		panic(text)
-	}
-	return a
-}
-
-// term is the term that a text tells.
-func term(text string) api.Term {
-	x, err := parse.Term(text)
-	if err != nil {
-		panic(text + ": " + err.Error())
-	}
-	return x
-}
-
-// chain is a type so many types deep, each part of which but the last one has int for the other part.
-func chain(kind int8, depth int, right bool, bottom api.Type) api.Type {
-	for range depth - types.Depth(bottom) {
-		if right {
-			bottom = of(kind, integer(), bottom)
-		} else {
-			bottom = of(kind, bottom, integer())
-		}
-	}
-	return bottom
-}
-
-// balanced is a type with so many leaves, no deeper than it must be: it has twice as many nodes, less one.
-func balanced(kind int8, leaves int, leaf api.Type) api.Type {
-	if leaves == 1 {
-		return leaf
-	}
-	return of(kind, balanced(kind, leaves-leaves/2, leaf), balanced(kind, leaves/2, leaf))
-}
-
-// full is a type of 2^depth - 1 nodes, whose parts are shared.
-func full(kind int8, depth int, bottom api.Type) api.Type {
-	for range depth - 1 {
-		bottom = of(kind, bottom, bottom)
-	}
-	return bottom
-}
-
-// endless is a type that lies within itself.
-func endless(kind int8) api.Type {
-	kids := make([]api.Type, 2)
-	kids[0], kids[1] = integer(), of(kind, kids...)
-	return kids[1]
-}
-
-// everyKind is a term of each kind, that of Cast last.
-func everyKind() []api.Term {
-	var all []api.Term
-	for _, text := range []string{`x`, `1`, `true`, `false`, `\x:?.x`, `rec f(x:?):?.x`, `x(y)`, `let x:?=y in x`, `if x then y else z`, `[x, y]`, `fst x`, `snd x`, `inl {?} x`, `inr {?} x`, `case x of y.y | z.z`, `x + y`, `x : ?`} {
-		all = append(all, term(text))
-	}
-	return append(all, api.Term{Kind: api.Cast, Label: 1, Type: integer(), To: unknown(), Kids: []api.Term{term(`x`)}})
-}
-
-// around are the terms in which x stands as each kid of each kind.
-func around(x api.Term) []api.Term {
-	all := []api.Term{x}
-	for _, outer := range everyKind() {
-		for n := range outer.Kids {
-			y := outer
-			y.Kids = slices.Clone(outer.Kids)
-			y.Kids[n] = x
-			all = append(all, y)
-		}
-	}
-	return all
-}
-
-// allOf is x, and all terms within it, each ahead of its kids.
-func allOf(x api.Term) []api.Term {
-	all := []api.Term{x}
-	for _, kid := range x.Kids {
-		all = append(all, allOf(kid)...)
-	}
-	return all
-}
-
-// castsOf is how many Casts there are in x.
-func castsOf(x api.Term) int {
-	count := 0
-	for _, y := range allOf(x) {
-		if y.Kind == api.Cast {
-			count++
-		}
-	}
-	return count
-}
-
-// short is what a looks like: its text, or, of one that is none, how it begins.
-func short(a api.Type) string {
-	if text, e := types.Text(a); e == api.OK {
-		return fmt.Sprintf("%.200s", text)
-	}
-	if types.Check(a) == api.ErrTooBig {
-		return "one too great"
-	}
-	return fmt.Sprintf("%.200s", fmt.Sprint(a))
-}
-
-// shortTerm is what x, without Casts, looks like.
-func shortTerm(x api.Term) string {
-	text, e := show.Text(x)
-	if e != api.OK {
-		return e.Error()
-	}
-	return fmt.Sprintf("%.300s", text)
-}
-
 func text(a api.Type) string {
 	text, e := types.Text(a)
 	if e != api.OK {
@@ -159,6 +48,9 @@ func text(a api.Type) string {
 	}
 	return text
 }
+
+// castsOf is how many Casts there are in x.
+func castsOf(x api.Term) int { return samples.Count(x, api.Cast) }
 
 // written is what a cast term looks like, in brackets wherever it stands beside words.
 func written(u api.Term) string {

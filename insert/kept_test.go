@@ -7,32 +7,9 @@ import (
 
 	"lychgate/api"
 	"lychgate/insert"
-	"lychgate/terms"
+	"lychgate/samples"
 	"lychgate/types"
 )
-
-// littered is x with something in all that does not count.
-func littered(x api.Term) api.Term {
-	x.Label = 3
-	bare := terms.Bare(x)
-	if bare.Name == "" {
-		x.Name = "in"
-	}
-	if bare.Arg == "" {
-		x.Arg = "1"
-	}
-	if x.Kind != api.Num {
-		x.Num = 5
-	}
-	switch x.Kind {
-	case api.Lam, api.Let, api.Inl, api.Inr, api.Is:
-		x.To = endless(api.Fun)
-	case api.Rec:
-	default:
-		x.Type, x.To = of(99), endless(api.Sum)
-	}
-	return over(x, littered)
-}
 
 // P12.1: fields that do not count make no difference, and are empty in what is told.
 func TestFieldsThatDoNotCount(t *testing.T) {
@@ -42,7 +19,7 @@ func TestFieldsThatDoNotCount(t *testing.T) {
 		if err != nil {
 			t.Fatal(text, err)
 		}
-		becomes(t, littered(x), u, a)
+		becomes(t, samples.Littered(x), u, a)
 	}
 }
 
@@ -69,21 +46,9 @@ func TestArgumentsStay(t *testing.T) {
 	}
 }
 
-// lists are the places at which the lists of a type lie, each as often as it is in it.
-func lists(a api.Type) []*api.Type {
-	if len(a.Kids) == 0 {
-		return nil
-	}
-	all := []*api.Type{&a.Kids[0]}
-	for _, kid := range a.Kids {
-		all = append(all, lists(kid)...)
-	}
-	return all
-}
-
 // listsWithin are those of the types of x.
 func listsWithin(x api.Term) []*api.Type {
-	all := append(lists(x.Type), lists(x.To)...)
+	all := append(samples.Lists(x.Type), samples.Lists(x.To)...)
 	for _, kid := range x.Kids {
 		all = append(all, listsWithin(kid)...)
 	}
@@ -147,7 +112,7 @@ func TestAnswersShareNothing(t *testing.T) {
 		if err != nil || errToo != nil || !exactly(u, v) || !types.Same(a, b) {
 			t.Fatal(text, err, errToo)
 		}
-		once(t, text, append(listsWithin(u), lists(a)...), slices.Concat(listsWithin(v), lists(b), listsWithin(x)))
+		once(t, text, append(listsWithin(u), samples.Lists(a)...), slices.Concat(listsWithin(v), samples.Lists(b), listsWithin(x)))
 		once(t, text, kidsWithin(u), slices.Concat(kidsWithin(v), kidsWithin(x)))
 		spoilTerm(u)
 		spoilType(a)
@@ -165,13 +130,13 @@ func TestSharedParts(t *testing.T) {
 	if err != nil {
 		t.Fatal(err)
 	}
-	once(t, "shared", append(listsWithin(u), lists(a)...), listsWithin(whole))
+	once(t, "shared", append(listsWithin(u), samples.Lists(a)...), listsWithin(whole))
 	once(t, "shared", kidsWithin(u), kidsWithin(whole))
 }
 
 // R2: how many goroutines work changes no answer, and nothing is left behind.
 func TestManyAtATime(t *testing.T) {
-	good, bad, badly, big := term(`\x:?.[\y:int.[x+y, y], \y:?.if y then x else 1]`), term(`\x:?.[\y:bool.y, y]`), term(`(1:?)(2)`), noTerms()[api.ErrTooBig][2]
+	good, bad, badly, big := term(`\x:?.[\y:int.[x+y, y], \y:?.if y then x else 1]`), term(`\x:?.[\y:bool.y, y]`), term(`(1:?)(2)`), samples.NoTerms()[api.ErrTooBig][2]
 	badly.Kids[1].At = -1
 	want, ofType, err := insert.Term(good)
 	if err != nil || castsOf(want) != 3 {

@@ -7,6 +7,7 @@ import (
 
 	"lychgate/api"
 	"lychgate/insert"
+	"lychgate/samples"
 	"lychgate/terms"
 )
 
@@ -23,42 +24,9 @@ func TestWhatCheckRefuses(t *testing.T) {
 	refusesText(t, `case (1:?) of x.x | y.^x`, api.ErrName, "x")
 }
 
-// noTerms are no terms, with what terms.Check tells of each.
-func noTerms() map[api.Errno][]api.Term {
-	x := node(api.Yes, 7)
-	fst := func(n int, x api.Term) api.Term {
-		for range n {
-			x = node(api.Fst, 7, x)
-		}
-		return x
-	}
-	twice := func(n int, x api.Term) api.Term {
-		for range n {
-			x = node(api.Two, 7, x, x)
-		}
-		return x
-	}
-	is := func(a api.Type) api.Term { return api.Term{Kind: api.Is, At: 7, Type: a, Kids: []api.Term{x}} }
-	within := make([]api.Term, 2)
-	within[0], within[1] = x, node(api.Two, 7, within...)
-	return map[api.Errno][]api.Term{
-		api.ErrTerm: {
-			{}, {At: 7}, {Name: "in", At: 7}, {Kind: 18, At: 7}, {Kind: -1}, {Kind: 127}, {Kind: -128}, {Kind: 18, Kids: []api.Term{x}}, {Name: "x", Kids: []api.Term{x}},
-			node(api.Yes, 7, x), node(api.Num, 7, x), node(api.App, 7, x), node(api.If, 7, x, x), node(api.Case, 7, x, x, x), node(api.Two, 7, x, x, x), node(api.Fst, 7), node(api.Snd, 7, x, x),
-			{Kind: api.Lam, Name: "x"}, {Kind: api.Lam, Kids: []api.Term{x}}, {Kind: api.Lam, Name: "x", Type: of(api.Fun), Kids: []api.Term{x}}, {Kind: api.Lam, Name: strings.Repeat("x", 65), Kids: []api.Term{x}},
-			{Kind: api.Rec, Name: "f", Arg: "x", To: of(api.Unknown, unknown()), Kids: []api.Term{x}}, {Kind: api.Rec, Name: "f", Kids: []api.Term{x}}, {Kind: api.Rec, Arg: "x", Kids: []api.Term{x}},
-			{Kind: api.Let, Name: "x", Kids: []api.Term{x}}, {Kind: api.Let, Name: "1", Kids: []api.Term{x, x}}, {Kind: api.Case, Name: "x", Kids: []api.Term{x, x, x}},
-			{Kind: api.Op, Name: "%", Kids: []api.Term{x, x}}, {Kind: api.Op, Kids: []api.Term{x, x}}, {Kind: api.Op, Name: "+", Kids: []api.Term{x}}, {Kind: api.Inl, Type: of(6), Kids: []api.Term{x}}, is(of(api.Int, unknown())), is(of(-1)), is(of(api.Sum, integer())),
-			{Kind: api.Cast, Kids: []api.Term{x}}, {Kind: api.Cast, Label: 1}, fst(199, api.Term{}), twice(12, api.Term{}),
-		},
-		api.ErrTooDeep: {fst(200, x), fst(8000, x), fst(200, api.Term{}), is(chain(api.Fun, 200, true, integer())), is(chain(api.Sum, 4000, false, integer())), fst(180, is(chain(api.Pair, 20, true, integer())))},
-		api.ErrTooBig:  {fst(8192, x), twice(13, x), twice(40, x), twice(13, api.Term{}), within[1], is(full(api.Fun, 13, integer())), is(full(api.Fun, 50, integer())), is(endless(api.Pair)), is(endless(99))},
-	}
-}
-
 // R10: what is no term is refused ahead of all else.
 func TestWhatIsNoTerm(t *testing.T) {
-	for code, all := range noTerms() {
+	for code, all := range samples.NoTerms() {
 		for _, x := range all {
 			refuses(t, x, api.Fault{Code: code})
 			for _, ahead := range []api.Term{name("y", 9), term(`1:?`), api.Term{Kind: api.Is, Kids: []api.Term{node(api.Yes, -1)}}} {
@@ -71,9 +39,9 @@ func TestWhatIsNoTerm(t *testing.T) {
 
 // A Cast, wherever it is, is refused at 0, even one that would not be put in otherwise.
 func TestCasts(t *testing.T) {
-	cast := everyKind()[api.Cast]
+	cast := samples.EveryKind()[api.Cast]
 	cast.At, cast.Kids = 3, []api.Term{node(api.Num, 4)}
-	for _, x := range around(cast) {
+	for _, x := range samples.Around(cast) {
 		x.At = 9
 		refuses(t, x, api.Fault{Code: api.ErrTerm})
 		refuses(t, node(api.Two, 5, name("y", 6), x), api.Fault{Code: api.ErrTerm})

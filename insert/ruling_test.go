@@ -3,15 +3,16 @@ package insert_test
 import (
 	"errors"
 	"math/rand"
-	"slices"
 	"strings"
 	"testing"
 
 	"lychgate/api"
 	"lychgate/check"
 	"lychgate/insert"
+	"lychgate/kernel"
 	"lychgate/parse"
 	"lychgate/proof"
+	"lychgate/samples"
 	"lychgate/terms"
 	"lychgate/types"
 )
@@ -178,8 +179,8 @@ func TestEveryRow(t *testing.T) {
 		some = append(some, typed(text))
 	}
 	var told tally
-	for _, outer := range everyKind()[:api.Cast] {
-		for _, kids := range rows(parts, len(outer.Kids)) {
+	for _, outer := range samples.EveryKind()[:api.Cast] {
+		for _, kids := range samples.Rows(parts, len(outer.Kids)) {
 			for _, names := range [][2]string{{"x", "y"}, {"y", "x"}, {"x", "x"}} {
 				for n := range some {
 					x := outer
@@ -201,29 +202,14 @@ func TestEveryRow(t *testing.T) {
 	told.enough(t, 1000, api.OK, api.ErrMatch, api.ErrAgree)
 }
 
-// rows are all rows of so many of l.
-func rows[T any](l []T, length int) [][]T {
-	all := [][]T{nil}
-	for range length {
-		var more [][]T
-		for _, row := range all {
-			for _, x := range l {
-				more = append(more, append(slices.Clone(row), x))
-			}
-		}
-		all = more
-	}
-	return all
-}
-
 // P12.1: made-up terms, as they are, with annotations opened, and spoilt; with terms put for others, with places that no label tells, and with casts.
 func TestManyTerms(t *testing.T) {
 	g := newGrower(2)
 	var told tally
 	for n := range 4000 {
-		x := g.term(1 + n%6)
-		opened := annotated(x, g.opened)
-		for _, y := range []api.Term{x, opened, g.someOpened(x), annotated(opened, g.opened), annotated(opened, g.spoilt), g.mixed(opened)} {
+		x := g.Term(1 + n%6)
+		opened := annotated(x, g.Opened)
+		for _, y := range []api.Term{x, opened, g.someOpened(x), annotated(opened, g.Opened), annotated(opened, g.Spoilt), g.Mixed(opened)} {
 			told.note(asRuled(t, numbered(g.random, y)))
 		}
 		told.note(asRuled(t, g.misplaced(numbered(g.random, opened))))
@@ -234,8 +220,8 @@ func TestManyTerms(t *testing.T) {
 
 // misplaced is x with some terms where no label can tell them.
 func (g *grower) misplaced(x api.Term) api.Term {
-	if g.random.Intn(8) == 0 {
-		x.At = one(g, -1, 1<<31-1, 1<<31-2, -1<<31)
+	if g.Intn(5) == 0 {
+		x.At = samples.One(g, -1, 1<<31-1, 1<<31-2, -1<<31)
 	}
 	return over(x, g.misplaced)
 }
@@ -255,8 +241,8 @@ func FuzzText(f *testing.F) {
 		if err != nil {
 			return
 		}
-		if b, ok := strictly(u, map[string]api.Type{}); !ok || !types.Same(a, b) {
-			t.Errorf("%s: %s is no cast term of %s", text, written(u), short(a))
+		if b, e := kernel.Type(u); e != api.ErrTooBig && e != api.ErrTooDeep && (e != api.OK || !types.Same(a, b)) {
+			t.Errorf("%s: %s is no cast term of %s: %v", text, written(u), short(a), e)
 		}
 	})
 }

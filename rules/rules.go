@@ -1,4 +1,4 @@
-// Package rules has the rules of chapter 9, which layers 9 and 11 ask of terms; some of their words mean another thing to each. What is around a term is here for layers 10 and 12, too. See shared/doc/09-check.md and shared/doc/11-static.md.
+// Package rules has the rules of chapter 9, which layers 9, 11 and 13 ask of terms; some of their words mean another thing to each. What is around a term is here for layers 10 and 12, too. See shared/doc/09-check.md, shared/doc/11-static.md and shared/doc/13-kernel.md.
 package rules
 
 import (
@@ -12,27 +12,40 @@ import (
 
 // Rules are what is asked of terms; what they mean by some of their words stands in the fields.
 type Rules struct {
-	Refuse func(t api.Term) *api.Fault // of what they do not speak of: at the least what Refuse does
+	Refuse func(t api.Term) *api.Fault // of what they do not speak of: at the least what terms.Check refuses
 	Agree  func(a, b api.Type) bool
 	Match  func(kind int8, a api.Type) (l, r api.Type, ok bool)
 	Meet   func(a, b api.Type) api.Type // of two that agree
+	Goes   func(from, to api.Type) bool // whether a Cast may go so; nobody asks where Refuse lets no Cast in
 }
 
-// Refuse tells what keeps t from being a term without casts; or nil.
-func Refuse(t api.Term) *api.Fault {
-	e := terms.Check(t)
-	if e == api.OK && hasCast(t) {
-		e = api.ErrTerm
+// Strict are the rules, where two types agree just if they are the same, and a type matches just what it is.
+func Strict(refuse func(t api.Term) *api.Fault) Rules {
+	return Rules{
+		Refuse: refuse,
+		Agree:  types.Same,
+		Match:  partsOf,
+		Meet:   func(a, _ api.Type) api.Type { return a },
 	}
-	if e == api.OK {
-		return nil
-	}
-	return &api.Fault{Code: e}
 }
 
-// hasCast goes down into a term that has been checked.
-func hasCast(t api.Term) bool {
-	return t.Kind == api.Cast || slices.ContainsFunc(t.Kids, hasCast)
+// Without gives what tells of a t what keeps it from being a term in which there is none of that kind; or nil.
+func Without(kind int8) func(t api.Term) *api.Fault {
+	return func(t api.Term) *api.Fault {
+		e := terms.Check(t)
+		if e == api.OK && has(t, kind) {
+			e = api.ErrTerm
+		}
+		if e == api.OK {
+			return nil
+		}
+		return &api.Fault{Code: e}
+	}
+}
+
+// has goes down into a term that has been checked.
+func has(t api.Term, kind int8) bool {
+	return t.Kind == kind || slices.ContainsFunc(t.Kids, func(kid api.Term) bool { return has(kid, kind) })
 }
 
 // Type gives the type of t, nothing being around it.
@@ -134,6 +147,10 @@ func (r Rules) over(t api.Term, kids []api.Type) api.Type {
 		r.wantAgree(t, kids[0], of(api.Int))
 		r.wantAgree(t, kids[1], of(api.Int))
 		return AnswerOf(t.Name)
+	case api.Cast:
+		r.wantAgree(t, kids[0], t.Type)
+		r.wantGoes(t)
+		return t.To
 	}
 	r.wantAgree(t, kids[0], t.Type) // an Is: there is no other kind left
 	return t.Type
@@ -142,6 +159,13 @@ func (r Rules) over(t api.Term, kids []api.Type) api.Type {
 // wantAgree fails at t, unless a agrees with b.
 func (r Rules) wantAgree(t api.Term, a, b api.Type) {
 	if !r.Agree(a, b) {
+		fail(t, api.ErrAgree)
+	}
+}
+
+// wantGoes fails at t, unless it may go as it does.
+func (r Rules) wantGoes(t api.Term) {
+	if !r.Goes(t.Type, t.To) {
 		fail(t, api.ErrAgree)
 	}
 }
@@ -168,6 +192,14 @@ func named(t api.Term, around Around) api.Type {
 		panic(&api.Fault{Code: api.ErrName, At: t.At, Word: strings.Clone(t.Name)})
 	}
 	return a
+}
+
+// partsOf gives those of an a of that kind.
+func partsOf(kind int8, a api.Type) (l, r api.Type, ok bool) {
+	if a.Kind != kind {
+		return l, r, false
+	}
+	return a.Kids[0], a.Kids[1], true
 }
 
 // AnswerOf is the type of what an operator makes of two numbers.

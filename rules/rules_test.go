@@ -21,13 +21,14 @@ func asking(asked *[]string) rules.Rules {
 		*asked = append(*asked, word)
 	}
 	return rules.Rules{
-		Refuse: rules.Refuse,
+		Refuse: rules.Without(api.Cast),
 		Agree:  func(a, b api.Type) bool { note("agree", a, b); return true },
 		Match: func(kind int8, a api.Type) (l, r api.Type, ok bool) {
 			note("match", a)
 			return api.Type{Kind: api.Int}, api.Type{Kind: api.Bool}, true
 		},
 		Meet: func(a, b api.Type) api.Type { note("meet", a, b); return b },
+		Goes: func(from, to api.Type) bool { note("goes", from, to); return true },
 	}
 }
 
@@ -54,6 +55,58 @@ func TestTheFieldsAreAsked(t *testing.T) {
 		is, _ := types.Text(a)
 		if asked = append(asked, "is "+is); err != nil || fail != nil || strings.Join(asked, "; ") != want {
 			t.Errorf("%s: %v, %v, %v; want %s", text, err, fail, asked, want)
+		}
+	}
+}
+
+// A Cast asks whether its kid's type is the one from which it goes, and then whether it may go so.
+func TestCasts(t *testing.T) {
+	cast := api.Term{Kind: api.Cast, Type: api.Type{Kind: api.Bool}, Label: 1, At: 5, Kids: []api.Term{{Kind: api.Num}}}
+	var asked []string
+	r := asking(&asked)
+	r.Refuse = rules.Without(api.Is)
+	if a, err := r.Type(cast); err != nil || a.Kind != api.Unknown || !slices.Equal(asked, []string{"agree int bool", "goes bool ?"}) {
+		t.Error(a, err, asked)
+	}
+	r.Goes = func(from, to api.Type) bool { return false }
+	if a, err := r.Type(cast); err == nil || err.Error() != "5: error 91: " || a.Kind != api.Unknown {
+		t.Error(a, err)
+	}
+	if _, err := asking(&asked).Type(cast); err == nil || err.Error() != "0: error 30: " {
+		t.Error(err)
+	}
+}
+
+// Strict rules ask whether two types are the same, and match what is of the very kind.
+func TestStrict(t *testing.T) {
+	r := rules.Strict(rules.Without(api.Cast))
+	for text, want := range map[string]string{
+		`\y:?.(\x:?.x)(y)`: "? -> ?", `(\x:int.x)(1)`: "int", `if true then \x:?.x else \x:?.x`: "? -> ?", `fst [1, true]`: "int", `inl{?+int}(1:int)`: "", `(1:int)(1)`: "", `\x:?.x(1)`: "", `if true then 1:int else true`: "", `(\x:?.x)(1)`: "",
+	} {
+		x, err := parse.Term(text)
+		a, fail := r.Type(x)
+		is, _ := types.Text(a)
+		if err != nil || (fail == nil) != (want != "") || fail == nil && is != want {
+			t.Errorf("%s: %v, %v, %v; want %q", text, err, fail, is, want)
+		}
+	}
+}
+
+// What is refused of a kind is refused wherever it stands, behind what terms.Check refuses.
+func TestWithout(t *testing.T) {
+	for text, want := range map[string]string{`x`: "", `1:?`: "0: error 30: ", `\x:int.[x, if x:bool then 1 else 2]`: "0: error 30: ", `[x, \y:?.y]`: ""} {
+		x, err := parse.Term(text)
+		told := ""
+		if fault := rules.Without(api.Is)(x); fault != nil {
+			told = fault.Error()
+		}
+		if fault := rules.Without(api.Cast)(x); err != nil || fault != nil || told != want {
+			t.Errorf("%s: %v, %v, %q; want %q", text, err, fault, told, want)
+		}
+	}
+	for _, kind := range []int8{api.Is, api.Cast} {
+		if fault := rules.Without(kind)(api.Term{Kind: kind}); fault == nil || fault.Code != api.ErrTerm {
+			t.Error(kind, fault)
 		}
 	}
 }
