@@ -6,6 +6,7 @@ import (
 
 	"lychgate/agree"
 	"lychgate/api"
+	"lychgate/casts"
 	"lychgate/check"
 	"lychgate/insert"
 	"lychgate/kernel"
@@ -19,21 +20,21 @@ import (
 // inserted makes so many terms, opens their annotations, and hands on what each becomes, and its type.
 func inserted(t *testing.T, seed int64, many int, use func(g *grower, x, u api.Term, a api.Type)) {
 	t.Helper()
-	g, casts := newGrower(seed), 0
+	g, count := newGrower(seed), 0
 	for n := range many {
 		x := numbered(g.random, annotated(g.Term(1+n%6), g.Opened))
 		u, a, err := insert.Term(x)
 		if err != nil {
 			t.Fatal(shortTerm(x), err)
 		}
-		casts += castsOf(u)
+		count += castsOf(u)
 		use(g, x, u, a)
 		if t.Failed() {
 			t.FailNow() // one is enough: the next ones would tell the same
 		}
 	}
-	if casts < many {
-		t.Errorf("only %d Casts in %d terms", casts, many)
+	if count < many {
+		t.Errorf("only %d Casts in %d terms", count, many)
 	}
 }
 
@@ -97,14 +98,6 @@ func TestStaticTerms(t *testing.T) {
 	unchanged(bad)
 }
 
-// erased is u with the kid in the place of each Cast.
-func erased(u api.Term) api.Term {
-	for u.Kind == api.Cast {
-		u = u.Kids[0]
-	}
-	return over(u, erased)
-}
-
 // sumsAlike is x with one type for all Inl and Inr.
 func sumsAlike(x api.Term) api.Term {
 	if x.Kind == api.Inl || x.Kind == api.Inr {
@@ -140,7 +133,7 @@ func TestLabelsOfTexts(t *testing.T) {
 			seen = append(seen, y.Label)
 		}
 		labels += len(seen)
-		if v, w := erased(u), withoutIs(x); !terms.Same(sumsAlike(v), sumsAlike(w)) {
+		if v, w := casts.Erase(u), withoutIs(x); !terms.Same(sumsAlike(v), sumsAlike(w)) {
 			t.Errorf("%s: without Casts %s; without Is %s", text, written(v), written(w))
 		}
 	}
@@ -160,7 +153,7 @@ func TestLabelsOfTexts(t *testing.T) {
 // The types of Inl and Inr are sums, whatever they were: those that were are as they were.
 func TestSumsAreSums(t *testing.T) {
 	inserted(t, 14, 3000, func(_ *grower, x, u api.Term, _ api.Type) {
-		before, after := allOf(withoutIs(x)), allOf(erased(u))
+		before, after := allOf(withoutIs(x)), allOf(casts.Erase(u))
 		for n, y := range after {
 			if y.Kind != api.Inl && y.Kind != api.Inr {
 				continue

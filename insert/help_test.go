@@ -2,7 +2,6 @@ package insert_test
 
 import (
 	"errors"
-	"slices"
 	"strconv"
 	"strings"
 	"testing"
@@ -23,6 +22,7 @@ var (
 	allOf     = samples.All
 	over      = samples.Over
 	annotated = samples.Annotated
+	exactly   = samples.Exactly
 	short     = samples.ShortType
 	shortTerm = samples.ShortTerm
 )
@@ -98,12 +98,6 @@ func written(u api.Term) string {
 		return "<" + text(u.Type) + " => " + text(u.To) + ">" + strconv.Itoa(u.Label) + " " + kid(0)
 	}
 	return "what is no cast term"
-}
-
-// exactly tells whether x and y are the same in all fields, At too, and what does not count.
-func exactly(x, y api.Term) bool {
-	return x.Kind == y.Kind && x.Name == y.Name && x.Arg == y.Arg && x.Num == y.Num && x.Label == y.Label && x.At == y.At &&
-		types.Same(x.Type, y.Type) && types.Same(x.To, y.To) && slices.EqualFunc(x.Kids, y.Kids, exactly)
 }
 
 // becomes wants of x a cast term, exactly, and a type.

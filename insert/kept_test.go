@@ -46,39 +46,11 @@ func TestArgumentsStay(t *testing.T) {
 	}
 }
 
-// listsWithin are those of the types of x.
-func listsWithin(x api.Term) []*api.Type {
-	all := append(samples.Lists(x.Type), samples.Lists(x.To)...)
-	for _, kid := range x.Kids {
-		all = append(all, listsWithin(kid)...)
-	}
-	return all
-}
-
-// kidsWithin are the places at which the lists of kids of x lie.
-func kidsWithin(x api.Term) []*api.Term {
-	if len(x.Kids) == 0 {
-		return nil
-	}
-	all := []*api.Term{&x.Kids[0]}
-	for _, kid := range x.Kids {
-		all = append(all, kidsWithin(kid)...)
-	}
-	return all
-}
-
-// once wants no list of told among all more than once.
-func once[T any](t *testing.T, what string, told, all []*T) {
+// once wants no list of told among others, nor there twice.
+func once[T any](t *testing.T, what string, told, others []*T) {
 	t.Helper()
-	seen := map[*T]int{}
-	for _, list := range slices.Concat(told, all) {
-		seen[list]++
-	}
-	for _, list := range told {
-		if seen[list] > 1 {
-			t.Errorf("%s shares a list", what)
-			return
-		}
+	if samples.Shares(told, others) {
+		t.Errorf("%s shares a list", what)
 	}
 }
 
@@ -112,8 +84,8 @@ func TestAnswersShareNothing(t *testing.T) {
 		if err != nil || errToo != nil || !exactly(u, v) || !types.Same(a, b) {
 			t.Fatal(text, err, errToo)
 		}
-		once(t, text, append(listsWithin(u), samples.Lists(a)...), slices.Concat(listsWithin(v), samples.Lists(b), listsWithin(x)))
-		once(t, text, kidsWithin(u), slices.Concat(kidsWithin(v), kidsWithin(x)))
+		once(t, text, append(samples.TypeLists(u), samples.Lists(a)...), slices.Concat(samples.TypeLists(v), samples.Lists(b), samples.TypeLists(x)))
+		once(t, text, samples.TermLists(u), slices.Concat(samples.TermLists(v), samples.TermLists(x)))
 		spoilTerm(u)
 		spoilType(a)
 		becomes(t, x, v, b)
@@ -130,8 +102,8 @@ func TestSharedParts(t *testing.T) {
 	if err != nil {
 		t.Fatal(err)
 	}
-	once(t, "shared", append(listsWithin(u), samples.Lists(a)...), listsWithin(whole))
-	once(t, "shared", kidsWithin(u), kidsWithin(whole))
+	once(t, "shared", append(samples.TypeLists(u), samples.Lists(a)...), samples.TypeLists(whole))
+	once(t, "shared", samples.TermLists(u), samples.TermLists(whole))
 }
 
 // R2: how many goroutines work changes no answer, and nothing is left behind.
