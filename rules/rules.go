@@ -6,6 +6,7 @@ import (
 	"strings"
 
 	"lychgate/api"
+	"lychgate/copies"
 	"lychgate/terms"
 	"lychgate/types"
 )
@@ -61,7 +62,7 @@ func (r Rules) Type(t api.Term) (a api.Type, e error) {
 			panic(cause)
 		}
 	}()
-	return copied(r.tell(t, nil)), nil // it shares lists with t, and with itself
+	return copies.Type(r.tell(t, nil)), nil // it shares lists with t, and with itself
 }
 
 // tell gives the type of t. A rule that fails within it gives up by panic, with a *api.Fault.
@@ -217,12 +218,4 @@ func of(kind int8, parts ...api.Type) api.Type {
 
 func fail(t api.Term, code api.Errno) {
 	panic(&api.Fault{Code: code, At: t.At})
-}
-
-// copied goes down into a type that has been checked.
-func copied(a api.Type) api.Type {
-	if len(a.Kids) == 0 {
-		return of(a.Kind)
-	}
-	return of(a.Kind, copied(a.Kids[0]), copied(a.Kids[1]))
 }
