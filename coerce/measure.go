@@ -18,22 +18,6 @@ func typesOf(c api.Co) []api.Type {
 	return l
 }
 
-// counting gives c with the fields that do not count empty. Its types and kids are still those of c.
-func counting(c api.Co) api.Co {
-	own := api.Co{Kind: c.Kind, Kids: c.Kids}
-	switch c.Kind {
-	case api.CoFail:
-		own.To = c.To
-		fallthrough
-	case api.CoOut:
-		own.Label, own.Neg = c.Label, c.Neg
-		fallthrough
-	case api.CoId, api.CoIn:
-		own.Type = c.Type
-	}
-	return own
-}
-
 // measure tells how many nodes there are in c, with those of its types, and how deep it is. It is left as soon as there are more than may be: c may be without end.
 func measure(c api.Co) (nodes, depth int) {
 	var count func(c api.Co, at int)

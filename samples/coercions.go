@@ -171,7 +171,7 @@ func (g *Grower) Coercion(from, to api.Type, depth int) api.Co {
 	if ground, ok := types.Ground(to); ok && types.Same(ground, to) && g.Intn(2) == 0 {
 		return CoOut(to, g.Label())
 	}
-	ground := Spread(g.known(), func(api.Type) api.Type { return Of(api.Unknown) })
+	ground := groundOf(g.known())
 	return CoNode(api.CoSeq, CoOut(ground, g.Label()), g.Coercion(ground, to, depth-1))
 }
 
@@ -184,7 +184,7 @@ func (g *Grower) coercion(from, to api.Type, depth int) (c api.Co, ok bool) {
 	case to.Kind == api.Unknown && known && types.Same(from, ground) && roll < 4:
 		return CoIn(from), true
 	case depth > 0 && from.Kind == to.Kind && len(from.Kids) > 0 && roll < 4:
-		return g.over(from, to, depth-1), true
+		return over(from, to, depth-1, g.Coercion), true
 	case depth > 0 && roll < 5:
 		middle := One(g, from, to, Of(api.Unknown), g.SomeType(2), g.Agreeing(from))
 		return CoNode(api.CoSeq, g.Coercion(from, middle, depth-1), g.Coercion(middle, to, depth-1)), true
@@ -192,8 +192,8 @@ func (g *Grower) coercion(from, to api.Type, depth int) (c api.Co, ok bool) {
 	return api.Co{}, false
 }
 
-// over is a coercion of two others.
-func (g *Grower) over(from, to api.Type, depth int) api.Co {
+// over is a coercion of two others, between two types of one constructor.
+func over(from, to api.Type, depth int, grown func(from, to api.Type, depth int) api.Co) api.Co {
 	a, b, kind := from.Kids[0], to.Kids[0], int8(api.CoPair)
 	switch from.Kind {
 	case api.Fun:
@@ -201,7 +201,11 @@ func (g *Grower) over(from, to api.Type, depth int) api.Co {
 	case api.Sum:
 		kind = api.CoSum
 	}
-	return CoNode(kind, g.Coercion(a, b, depth), g.Coercion(from.Kids[1], to.Kids[1], depth))
+	return CoNode(kind, grown(a, b, depth), grown(from.Kids[1], to.Kids[1], depth))
+}
+
+func groundOf(a api.Type) api.Type {
+	return Spread(a, func(api.Type) api.Type { return Of(api.Unknown) })
 }
 
 // known is a type that is not ?.
